@@ -145,6 +145,25 @@ func TestFolds(t *testing.T) {
 	}
 }
 
+func TestSameNode(t *testing.T) {
+	node := func() api.NodeView {
+		return api.NodeView{Group: "g", Name: "n", Online: true, Bd: 1, Next: 2, Pending: true, Items: []api.Item{{Name: "x"}}, Devices: []api.DeviceView{{Name: "d", Online: true, Items: []api.Item{{Name: "y"}}}}}
+	}
+	if !sameNode(node(), node()) || !sameNode(api.NodeView{}, api.NodeView{Items: []api.Item{}, Devices: []api.DeviceView{}}) {
+		t.Error("the same")
+	}
+	for i, change := range []func(n *api.NodeView){
+		func(n *api.NodeView) { n.Group = "h" }, func(n *api.NodeView) { n.Name = "m" }, func(n *api.NodeView) { n.Online = false }, func(n *api.NodeView) { n.Bd = 0 }, func(n *api.NodeView) { n.Next = 0 }, func(n *api.NodeView) { n.Pending = false },
+		func(n *api.NodeView) { n.Items[0].Null = true }, func(n *api.NodeView) { n.Devices = nil }, func(n *api.NodeView) { n.Devices[0].Name = "e" }, func(n *api.NodeView) { n.Devices[0].Online = false }, func(n *api.NodeView) { n.Devices[0].Items = nil },
+	} {
+		n := node()
+		change(&n)
+		if sameNode(n, node()) || sameNode(node(), n) {
+			t.Errorf("change %d is not seen", i)
+		}
+	}
+}
+
 func TestBirths(t *testing.T) {
 	s := fold(lives())
 	nodes, born := s.Nodes(), s.Born()
@@ -171,7 +190,7 @@ func TestAsks(t *testing.T) {
 		want api.Errno
 	}{
 		"none": {nil, api.OK}, "apart": {[]api.Ask{ask(0, 1, "n"), ask(10, 2, "n"), ask(20, 9, "n")}, api.OK}, "of others": {[]api.Ask{ask(0, 1, "n"), ask(0, 2, "m"), {At: 0, Place: 2, Group: "h", Node: "n"}}, api.OK}, "of one place": {[]api.Ask{ask(0, 3, "n"), ask(0, 3, "m")}, api.OK},
-		"near": {[]api.Ask{ask(0, 1, "n"), ask(9, 2, "n")}, api.ErrUsed}, "near with others between": {[]api.Ask{ask(0, 1, "n"), ask(5, 2, "m"), ask(9, 3, "n")}, api.ErrUsed}, "at one time": {[]api.Ask{ask(4, 1, "n"), ask(4, 2, "n")}, api.ErrUsed},
+		"near": {[]api.Ask{ask(0, 1, "n"), ask(9, 2, "n")}, api.ErrUsed}, "near with others between": {[]api.Ask{ask(0, 1, "n"), ask(5, 2, "m"), ask(9, 3, "n")}, api.ErrUsed}, "near, later": {[]api.Ask{ask(20, 1, "n"), ask(29, 2, "n")}, api.ErrUsed}, "apart, later": {[]api.Ask{ask(3, 1, "n"), ask(13, 2, "n")}, api.OK}, "at one time": {[]api.Ask{ask(4, 1, "n"), ask(4, 2, "n")}, api.ErrUsed},
 		"falls": {[]api.Ask{ask(0, 2, "n"), ask(10, 1, "n")}, api.ErrUsed}, "falls, of others": {[]api.Ask{ask(0, 5, "n"), ask(10, 4, "m")}, api.ErrUsed}, "ahead of all": {[]api.Ask{ask(0, 0, "n")}, api.ErrUsed}, "behind all": {[]api.Ask{ask(0, 10, "n")}, api.ErrUsed}, "below": {[]api.Ask{ask(0, -1, "n")}, api.ErrUsed},
 	} {
 		if e := asks(x.l, 9); e != x.want {

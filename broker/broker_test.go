@@ -343,6 +343,11 @@ func TestKeep(t *testing.T) {
 	if len(l) != 5 || l[3].From != "f" || l[4].From != "e" {
 		t.Errorf("the earlier ones first: %v", l)
 	}
+	r.come(6, keep("h", 1), false)
+	r.tick(1)
+	r.closed(6, false)
+	r.tick(1)
+	r.closed(6, true)
 	r.come(4, keep("e", 4), false)
 	r.close(4)
 	r.come(4, keep("g", 0), false)

@@ -43,7 +43,7 @@ func TestPutWrong(t *testing.T) {
 		"level":               {func(c *api.Connect) { c.Level, c.Keep = 3, -1 }, api.ErrProto},
 		"level 0":             {func(c *api.Connect) { c.Level = 0 }, api.ErrProto},
 		"keep":                {func(c *api.Connect) { c.Keep, c.Will.Qos = -1, 3 }, api.ErrArg},
-		"great keep":          {func(c *api.Connect) { c.Keep = 65536 }, api.ErrArg},
+		"great keep":          {func(c *api.Connect) { c.Keep, c.HasUser = 65536, false }, api.ErrArg},
 		"will's Qos":          {func(c *api.Connect) { c.Will.Qos, c.HasWill = 3, false }, api.ErrFlags},
 		"will's low Qos":      {func(c *api.Connect) { c.Will.Qos = math.MinInt }, api.ErrFlags},
 		"pass without user":   {func(c *api.Connect) { c.HasUser = false }, api.ErrFlags},

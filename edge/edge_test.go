@@ -36,7 +36,7 @@ func death(bd int) api.Payload {
 	return api.Payload{Metrics: []api.Metric{num("bdSeq", uint64(bd))}}
 }
 
-func make1(t *testing.T) *Edge {
+func fresh(t *testing.T) *Edge {
 	t.Helper()
 	n, e := New("g", "n")
 	if e != api.OK {
@@ -87,7 +87,7 @@ func TestNew(t *testing.T) {
 			t.Errorf("New%q: %v %d", x, n, e)
 		}
 	}
-	n := make1(t)
+	n := fresh(t)
 	see(t, n, false, 0, 0, false, 0)
 	if n.Refuse() != api.RDecode {
 		t.Error("Refuse")
@@ -99,7 +99,7 @@ func TestNew(t *testing.T) {
 }
 
 func TestNodeBirth(t *testing.T) {
-	n := make1(t)
+	n := fresh(t)
 	null := num("bdSeq", 1)
 	null.Null = true
 	var many []api.Metric
@@ -133,7 +133,7 @@ func TestNodeBirth(t *testing.T) {
 }
 
 func TestNodeDeath(t *testing.T) {
-	n := make1(t)
+	n := fresh(t)
 	take(t, n, api.SNDeath, "", api.Payload{}, api.RBd)
 	take(t, n, api.SNDeath, "", death(1), api.RIgnored)
 	take(t, n, api.SNBirth, "", birth(1, 0, with("a", 1)), api.ROk)
@@ -156,7 +156,7 @@ func TestNodeDeath(t *testing.T) {
 }
 
 func TestNodeData(t *testing.T) {
-	n := make1(t)
+	n := fresh(t)
 	take(t, n, api.SNData, "", load(0), api.RBirth)
 	see(t, n, false, 0, 0, true, 0)
 	take(t, n, api.SNBirth, "", birth(1, 255, with("a", 5), num("b", 2)), api.ROk)
@@ -181,11 +181,12 @@ func TestNodeData(t *testing.T) {
 }
 
 func TestDeviceBirth(t *testing.T) {
-	n := make1(t)
+	n := fresh(t)
 	take(t, n, api.SDBirth, "d", load(0), api.RBirth)
 	take(t, n, api.SNBirth, "", birth(1, 0, with("a", 5)), api.ROk)
 	take(t, n, api.SDBirth, "", load(0), api.RSeq)
-	take(t, n, api.SDBirth, "", load(1, num("", 1)), api.RName)
+	take(t, n, api.SDBirth, "", load(1, num("x", 1)), api.RName)
+	take(t, n, api.SDBirth, "", load(1, num("x", 1), num("x", 2)), api.RName)
 	take(t, n, api.SDBirth, "d", load(1, num("", 1)), api.RName)
 	take(t, n, api.SDBirth, "d", load(1, num("x", 1), num("x", 2), with("y", 5)), api.RClash)
 	take(t, n, api.SDBirth, "d", load(1, with("x", 5)), api.RClash)
@@ -197,6 +198,7 @@ func TestDeviceBirth(t *testing.T) {
 		take(t, n, api.SDBirth, name, load(i+1, with("x", uint64(10+i))), api.ROk)
 	}
 	see(t, n, true, 1, 5, true, 5)
+	take(t, n, api.SDBirth, "", load(5, num("x", 1)), api.RName)
 	take(t, n, api.SDBirth, "b", load(5, num("", 1)), api.RFull)
 	take(t, n, api.SDBirth, "k", load(5, with("x", 10)), api.RClash)
 	take(t, n, api.SDBirth, "k", load(5, with("y", 13), with("z", 14)), api.ROk)
@@ -216,7 +218,7 @@ func TestDeviceBirth(t *testing.T) {
 }
 
 func TestAliasesFull(t *testing.T) {
-	n := make1(t)
+	n := fresh(t)
 	row := func(from int) []api.Metric {
 		var l []api.Metric
 		for i := range api.MaxItems - 1 {
@@ -236,7 +238,7 @@ func TestAliasesFull(t *testing.T) {
 }
 
 func TestDeviceDataDeath(t *testing.T) {
-	n := make1(t)
+	n := fresh(t)
 	take(t, n, api.SNBirth, "", birth(1, 0, with("a", 5)), api.ROk)
 	for _, kind := range []int{api.SDData, api.SDDeath} {
 		take(t, n, kind, "d", load(9), api.RBirth)
@@ -272,7 +274,7 @@ func TestDeviceDataDeath(t *testing.T) {
 }
 
 func TestItsOwn(t *testing.T) {
-	n := make1(t)
+	n := fresh(t)
 	p := birth(1, 0, with("a", 5))
 	take(t, n, api.SNBirth, "", p, api.ROk)
 	take(t, n, api.SDBirth, "d", load(1, num("x", 1)), api.ROk)
@@ -299,7 +301,7 @@ func TestNone(t *testing.T) {
 
 // TestWhatFollows: whatever comes, a device is online only while its node is, no table has more than there may be, and a birth makes pending end.
 func TestWhatFollows(t *testing.T) {
-	n := make1(t)
+	n := fresh(t)
 	seed := uint32(17)
 	next := func(most int) int {
 		seed = seed*1664525 + 1013904223

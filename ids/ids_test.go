@@ -8,7 +8,7 @@ import (
 	"crier/api"
 )
 
-func make1(t *testing.T, most int) *Ids {
+func fresh(t *testing.T, most int) *Ids {
 	t.Helper()
 	d, e := New(most)
 	if e != api.OK {
@@ -31,14 +31,14 @@ func TestNew(t *testing.T) {
 			t.Errorf("New(%d): %v %d", most, d, e)
 		}
 	}
-	d := make1(t, 3)
+	d := fresh(t, 3)
 	if d.Len() != 0 || len(d.All()) != 0 || d.Has(1) {
 		t.Error("all are free")
 	}
 }
 
 func TestTakeGive(t *testing.T) {
-	d := make1(t, 3)
+	d := fresh(t, 3)
 	take(t, d, 1)
 	take(t, d, 2)
 	if e := d.Give(1); e != api.OK || d.Has(1) || !d.Has(2) || d.Len() != 1 || !slices.Equal(d.All(), []int{2}) {
@@ -66,7 +66,7 @@ func TestTakeGive(t *testing.T) {
 	if e := d.Give(2); e != api.ErrNone {
 		t.Errorf("Give of a free one: %d", e)
 	}
-	if e := make1(t, 3).Give(3); e != api.ErrNone {
+	if e := fresh(t, 3).Give(3); e != api.ErrNone {
 		t.Errorf("Give of one that was never taken: %d", e)
 	}
 	d.All()[0] = 9
@@ -92,7 +92,7 @@ func TestNone(t *testing.T) {
 // TestLeast holds what is taken against a plain list.
 func TestLeast(t *testing.T) {
 	const most = 20
-	d := make1(t, most)
+	d := fresh(t, most)
 	var has [most + 1]bool
 	count := 0
 	seed := uint32(7)
@@ -127,7 +127,7 @@ func TestLeast(t *testing.T) {
 			t.Fatalf("Len: %d, want %d", d.Len(), count)
 		}
 	}
-	all := make1(t, 65535)
+	all := fresh(t, 65535)
 	for i := range 65535 {
 		if id, e := all.Take(); id != i+1 || e != api.OK {
 			t.Fatalf("Take: %d %d", id, e)

@@ -272,6 +272,11 @@ func TestWhatWasPutIsTold(t *testing.T) {
 			t.Errorf("within a template %v: %v %d", m, got, e)
 		}
 	}
+	full := api.Template{Metrics: many(64, api.Metric{}), Params: many(32, api.Param{Type: 1})}
+	b, _ := PutTemplate(full)
+	if got, e := OfTemplate(b); !sameTemplate(got, full) || e != api.OK {
+		t.Errorf("a full template: %d", e)
+	}
 	m := example()
 	Put(m)
 	if !reflect.DeepEqual(m, example()) {

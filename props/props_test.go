@@ -121,13 +121,13 @@ func TestOf(t *testing.T) {
 	}
 }
 
-// value is a list's bytes whose only property has these bytes as its value.
-func value1(b string) string { return "\x0a\x00\x12" + string(rune(len(b))) + b }
+// valued is a list's bytes whose only property has these bytes as its value.
+func valued(b string) string { return "\x0a\x00\x12" + string(rune(len(b))) + b }
 
 func TestOfWrong(t *testing.T) {
 	deep := ""
 	for range 9 {
-		deep = value1("\x4a" + string(rune(len(deep))) + deep)
+		deep = valued("\x4a" + string(rune(len(deep))) + deep)
 	}
 	for name, x := range map[string]struct {
 		b string
@@ -136,12 +136,12 @@ func TestOfWrong(t *testing.T) {
 		"wire": {"\x0a", api.ErrShort}, "key's kind": {"\x08\x01", api.ErrForm}, "value's kind": {"\x12\x00\x0d1234", api.ErrForm}, "value's kind alone": {"\x0a\x00\x10\x01", api.ErrForm},
 		"keys": {strings.Repeat("\x0a\x00", 33), api.ErrFull}, "values": {strings.Repeat("\x12\x00", 33), api.ErrFull}, "kind ahead of full": {strings.Repeat("\x0a\x00", 33) + "\x10\x00", api.ErrForm},
 		"more keys": {"\x0a\x00\x0a\x00\x12\x00", api.ErrForm}, "more values": {"\x0a\x00\x12\x01\xff\x12\x00", api.ErrForm},
-		"value's wire": {value1("\x18"), api.ErrShort}, "value's wire's kind": {value1("\x1f"), api.ErrKind},
-		"type's kind": {value1("\x0a\x00"), api.ErrForm}, "type": {value1("\x08\x80\x80\x80\x80\x10"), api.ErrRange}, "type, not the last": {value1("\x08\x80\x80\x80\x80\x10\x08\x01"), api.ErrRange},
-		"null's kind": {value1("\x12\x00"), api.ErrForm}, "null": {value1("\x10\x02"), api.ErrRange},
-		"plain's kind": {value1("\x1a\x00"), api.ErrForm}, "plain": {value1("\x38\x02"), api.ErrRange}, "text's kind": {value1("\x40\x02"), api.ErrForm}, "set's kind": {value1("\x48\x02"), api.ErrForm},
-		"in order": {value1("\x38\x02\x0a\x00"), api.ErrRange}, "in order, too": {value1("\x0a\x00\x38\x02"), api.ErrForm}, "a set ahead of a wrong one": {value1("\x4a\x01\xff\x10\x02"), api.ErrRange},
-		"sub's": {value1("\x4a\x01\x0f"), api.ErrKind}, "one by one": {"\x0a\x00\x0a\x00\x12\x02\x10\x02\x12\x01\x18", api.ErrRange}, "deep": {deep, api.ErrNest},
+		"value's wire": {valued("\x18"), api.ErrShort}, "value's wire's kind": {valued("\x1f"), api.ErrKind},
+		"type's kind": {valued("\x0a\x00"), api.ErrForm}, "type": {valued("\x08\x80\x80\x80\x80\x10"), api.ErrRange}, "type, not the last": {valued("\x08\x80\x80\x80\x80\x10\x08\x01"), api.ErrRange},
+		"null's kind": {valued("\x12\x00"), api.ErrForm}, "null": {valued("\x10\x02"), api.ErrRange},
+		"plain's kind": {valued("\x1a\x00"), api.ErrForm}, "plain": {valued("\x38\x02"), api.ErrRange}, "text's kind": {valued("\x40\x02"), api.ErrForm}, "set's kind": {valued("\x48\x02"), api.ErrForm},
+		"in order": {valued("\x38\x02\x0a\x00"), api.ErrRange}, "in order, too": {valued("\x0a\x00\x38\x02"), api.ErrForm}, "a set ahead of a wrong one": {valued("\x4a\x01\xff\x10\x02"), api.ErrRange},
+		"sub's": {valued("\x4a\x01\x0f"), api.ErrKind}, "one by one": {"\x0a\x00\x0a\x00\x12\x02\x10\x02\x12\x01\x18", api.ErrRange}, "deep": {deep, api.ErrNest},
 	} {
 		if l, e := Of([]byte(x.b)); l != nil || e != x.e {
 			t.Errorf("%s: Of(%x): %v %d, want %d", name, x.b, l, e, x.e)

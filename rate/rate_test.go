@@ -9,7 +9,7 @@ import (
 	"crier/api"
 )
 
-func make1(t *testing.T, gap int) *Rate {
+func fresh(t *testing.T, gap int) *Rate {
 	t.Helper()
 	r, e := New(gap)
 	if e != api.OK {
@@ -45,14 +45,14 @@ func TestNew(t *testing.T) {
 			t.Errorf("New(%d): %v %d", gap, r, e)
 		}
 	}
-	r := make1(t, 10)
+	r := fresh(t, 10)
 	if r.Len() != 0 || len(r.Keys()) != 0 {
 		t.Error("nobody asked of a new one")
 	}
 }
 
 func TestAsk(t *testing.T) {
-	r := make1(t, 10)
+	r := fresh(t, 10)
 	ask(t, r, "a", 5, true)
 	ask(t, r, "a", 5, false)
 	ask(t, r, "a", 14, false)
@@ -73,18 +73,18 @@ func TestAsk(t *testing.T) {
 	if r.Keys()[0] != "" {
 		t.Error("what was answered is kept")
 	}
-	zero := make1(t, 0)
+	zero := fresh(t, 0)
 	ask(t, zero, "a", 5, true)
 	ask(t, zero, "a", 5, true)
 	ask(t, zero, "a", 4, false)
-	far := make1(t, api.MaxClock)
+	far := fresh(t, api.MaxClock)
 	ask(t, far, "a", 0, true)
 	ask(t, far, "a", api.MaxClock-1, false)
 	ask(t, far, "a", api.MaxClock, true)
 }
 
 func TestFull(t *testing.T) {
-	r := make1(t, 1)
+	r := fresh(t, 1)
 	for i := range api.MaxNodes {
 		ask(t, r, "k"+strconv.Itoa(i), 100-i, true)
 	}
@@ -108,7 +108,7 @@ func TestNone(t *testing.T) {
 
 // TestApart holds grants against a plain table.
 func TestApart(t *testing.T) {
-	r := make1(t, 7)
+	r := fresh(t, 7)
 	last := map[string]int{}
 	now := 0
 	seed := uint32(19)

@@ -10,8 +10,8 @@ import (
 	"crier/api"
 )
 
-// lines1 are events, each with its line.
-func lines1() map[string]api.Event {
+// printed are events, each with its line.
+func printed() map[string]api.Event {
 	return map[string]api.Event{
 		"open 0": {K: api.EvOpen}, "bytes 0 c000": {K: api.EvBytes, Data: "\xc0\x00"}, "bytes 7 -": {K: api.EvBytes, Conn: 7}, "bytes 1073741824 0123456789abcdefff": {K: api.EvBytes, Conn: api.MaxClock, Data: "\x01\x23\x45\x67\x89\xab\xcd\xef\xff"},
 		"close 99": {K: api.EvClose, Conn: 99}, "tick 1000": {K: api.EvTick, N: 1000}, "tick 0": {K: api.EvTick}, "serve 10": {K: api.EvServe, Conn: 10}, "tick 1073741824": {K: api.EvTick, N: api.MaxClock},
@@ -19,7 +19,7 @@ func lines1() map[string]api.Event {
 }
 
 func TestPrintParse(t *testing.T) {
-	for line, e := range lines1() {
+	for line, e := range printed() {
 		if got, f := Print(e); got != line || f != api.OK {
 			t.Errorf("Print(%v): %q %d", e, got, f)
 		}
@@ -122,6 +122,12 @@ func TestAll(t *testing.T) {
 	if l, at, f := ParseAll(text); e != api.OK || !slices.Equal(l, many[:512]) || at != 0 || f != api.OK {
 		t.Errorf("as many as there may be: %d, %d %d %d", e, len(l), at, f)
 	}
+	whole := api.Event{K: api.EvBytes, Conn: 10, Data: great.Data}
+	if text, e := PrintAll([]api.Event{whole}); len(text) != api.MaxText || e != api.OK {
+		t.Errorf("as long as may be: %d %d", len(text), e)
+	} else if l, _, e := ParseAll(text); len(l) != 1 || l[0] != whole || e != api.OK {
+		t.Errorf("ParseAll of a longest one: %d %d", len(l), e)
+	}
 	if text, e := PrintAll([]api.Event{great}); len(text) != api.MaxText-1 || e != api.OK {
 		t.Errorf("nearly as long as may be: %d %d", len(text), e)
 	}
@@ -149,7 +155,7 @@ func TestParseAll(t *testing.T) {
 	}
 	var text string
 	var want []api.Event
-	for line, e := range lines1() {
+	for line, e := range printed() {
 		text += line + "\n"
 		want = append(want, e)
 	}

@@ -11,7 +11,7 @@ import (
 	"crier/api"
 )
 
-func make1(t *testing.T, clean bool) *Session {
+func fresh(t *testing.T, clean bool) *Session {
 	t.Helper()
 	s, e := New("c", clean)
 	if e != api.OK {
@@ -48,7 +48,7 @@ func TestNew(t *testing.T) {
 		}
 	}
 	for _, clean := range []bool{false, true} {
-		s := make1(t, clean)
+		s := fresh(t, clean)
 		if s.Clean() != clean || s.Online() || s.Detach() || len(s.Queue()) != 0 || len(s.Flight()) != 0 || len(s.Inbox()) != 0 || s.Lost() != 0 {
 			t.Error("nothing is in a new one, and it is not online")
 		}
@@ -59,7 +59,7 @@ func TestNew(t *testing.T) {
 }
 
 func TestOfflineWaits(t *testing.T) {
-	s := make1(t, false)
+	s := fresh(t, false)
 	deliver(t, s, msg(1, 1), 2, true)
 	deliver(t, s, msg(2, 2), 2, true)
 	deliver(t, s, msg(3, 0), 2, false)
@@ -85,7 +85,7 @@ func TestDeliverQos(t *testing.T) {
 	for _, x := range []struct{ m, qos, want int }{
 		{0, 0, 0}, {0, 2, 0}, {1, 0, 0}, {2, 0, 0}, {1, 1, 1}, {1, 2, 1}, {2, 1, 1}, {2, 2, 2}, {-1, 2, 0}, {2, -5, 0}, {9, 9, 2}, {2, 9, 2}, {9, 1, 1}, {math.MinInt, math.MaxInt, 0}, {math.MaxInt, math.MaxInt, 2},
 	} {
-		s := make1(t, true)
+		s := fresh(t, true)
 		s.Attach()
 		id := min(x.want, 1)
 		want := msg(7, x.want)
@@ -94,7 +94,7 @@ func TestDeliverQos(t *testing.T) {
 }
 
 func TestFillAndLose(t *testing.T) {
-	s := make1(t, false)
+	s := fresh(t, false)
 	s.Attach()
 	for i := range api.MaxFlight {
 		deliver(t, s, msg(i, 1+i%2), 2, true, pub(i+1, msg(i, 1+i%2), false))
@@ -130,7 +130,7 @@ func TestFillAndLose(t *testing.T) {
 }
 
 func TestInbox(t *testing.T) {
-	s := make1(t, false)
+	s := fresh(t, false)
 	for _, want := range []bool{true, false} {
 		if fresh, e := s.Come(5); fresh != want || e != api.OK {
 			t.Errorf("Come: %v %d", fresh, e)
@@ -171,7 +171,7 @@ func TestNone(t *testing.T) {
 
 // TestOnceInOrder: all that was not lost is sent once for the first time, in order, however the connection breaks.
 func TestOnceInOrder(t *testing.T) {
-	s := make1(t, false)
+	s := fresh(t, false)
 	var kept, first []string
 	again := map[int]api.Packet{}
 	seed := uint32(9)

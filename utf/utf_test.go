@@ -36,6 +36,7 @@ func TestPut(t *testing.T) {
 		{"a", "\x00\x01a", api.OK, api.OK}, {"", "\x00\x00", api.OK, api.OK}, {"\x00", "\x00\x01\x00", api.ErrUtf, api.OK}, {"\xff\xfe", "\x00\x02\xff\xfe", api.ErrUtf, api.OK},
 		{strings.Repeat("x", 258), "\x01\x02" + strings.Repeat("x", 258), api.OK, api.OK},
 		{strings.Repeat("x", api.MaxString), "\xff\xff" + strings.Repeat("x", api.MaxString), api.OK, api.OK},
+		{strings.Repeat("\xff", api.MaxString), "\xff\xff" + strings.Repeat("\xff", api.MaxString), api.ErrUtf, api.OK},
 		{strings.Repeat("x", api.MaxString+1), "", api.ErrLong, api.ErrLong}, {strings.Repeat("\xff", api.MaxString+1), "", api.ErrLong, api.ErrLong},
 	} {
 		want := x.b
