@@ -109,11 +109,33 @@ func TestOf(t *testing.T) {
 	if got, e := Of(other, 10, true); got != (api.Value{}) || e != api.OK {
 		t.Errorf("Of no value's fields: %v %d", got, e)
 	}
-	if got, e := Of([]api.Field{f(1, api.KVar, 5, "junk")}, 1, false); got != v(api.VInt, 5, "") || e != api.OK {
-		t.Errorf("what a kind has not plays no part: %v %d", got, e)
+}
+
+// A field's Val and Text are the value's N and S whatever its kind, also where no value of that kind may have both.
+func TestOfTellsTheWholeField(t *testing.T) {
+	const most = math.MaxUint64
+	for _, x := range []struct {
+		l    []api.Field
+		want api.Value
+	}{
+		{[]api.Field{f(10, api.KVar, 7, "x")}, v(api.VInt, 7, "x")},
+		{[]api.Field{f(11, api.KVar, most, "x")}, v(api.VLong, most, "x")},
+		{[]api.Field{f(12, api.KFix4, 1<<32-1, "x")}, v(api.VFloat, 1<<32-1, "x")},
+		{[]api.Field{f(13, api.KFix8, most, "x")}, v(api.VDouble, most, "x")},
+		{[]api.Field{f(14, api.KVar, 1, "x")}, v(api.VBool, 1, "x")},
+		{[]api.Field{f(15, api.KText, 7, "x")}, v(api.VText, 7, "x")},
+		{[]api.Field{f(15, api.KText, most, "")}, v(api.VText, most, "")},
+		{[]api.Field{f(16, api.KText, most, "x")}, v(api.VBytes, most, "x")},
+		{[]api.Field{f(15, api.KText, 7, "x"), f(10, api.KVar, 1, "")}, v(api.VInt, 1, "")},
+	} {
+		if got, e := Of(x.l, 10, true); got != x.want || e != api.OK {
+			t.Errorf("Of(%v): %v %d, want %v", x.l, got, e, x.want)
+		}
 	}
-	if got, e := Of([]api.Field{f(6, api.KText, 5, "t")}, 1, false); got != v(api.VText, 0, "t") || e != api.OK {
-		t.Errorf("what a kind has not plays no part: %v %d", got, e)
+	for _, l := range [][]api.Field{{f(10, api.KVar, 1<<32, "x")}, {f(12, api.KFix4, 1<<32, "x")}, {f(14, api.KVar, 2, "x")}} {
+		if got, e := Of(l, 10, true); got != (api.Value{}) || e != api.ErrRange {
+			t.Errorf("Of(%v): %v %d", l, got, e)
+		}
 	}
 }
 
